@@ -4,10 +4,10 @@ import "tandem/api"
 
 // Line is the instruction at the head of code, which lies at pc, as text.
 func Line(code []byte, pc uint16) (string, api.Errno) {
-	if len(code) == 0 || len(code) < lenOf(table[code[0]].mode) {
+	if len(code) == 0 || len(code) < lenOf(modeOf(code[0])) {
 		return "", api.ErrShort
 	}
-	r := table[code[0]]
+	r := rowOf(code[0])
 	text := names[r.op]
 	if c, e := Encode(r.op, r.mode); e != api.OK || c != code[0] {
 		text += fill(point, uint16(code[0]))

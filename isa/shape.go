@@ -18,21 +18,20 @@ func (s *run) add(more ...api.Acc) {
 
 // Cycles is how long an instruction takes.
 func Cycles(code uint8, crossed, taken bool) int {
-	s := runOf(code, crossed, taken)
+	s := runOf(rowOf(code), crossed, taken)
 	return s.n
 }
 
 // Shape is what an instruction does on the bus, cycle by cycle.
 func Shape(code uint8, crossed, taken bool) []api.Acc {
-	s := runOf(code, crossed, taken)
+	s := runOf(rowOf(code), crossed, taken)
 	list := make([]api.Acc, s.n)
 	copy(list, s.acc[:])
 	return list
 }
 
-// runOf is the accesses of an opcode's instruction.
-func runOf(code uint8, crossed, taken bool) run {
-	r := table[code]
+// runOf is the accesses of a row's instruction.
+func runOf(r row, crossed, taken bool) run {
 	s := run{}
 	s.add(api.AccFetch)
 	switch kindOf(r) {

@@ -31,7 +31,7 @@ type row struct {
 	class int
 }
 
-// table is the opcodes, in the order of their numbers.
+// table is the opcodes, in the order of their numbers. Read holds the opcode that a line names against it; what all other calls ask is worked out by rowOf, which says the same in far fewer rows.
 var table = [256]row{
 	0x00: {api.OpBRK, imp, std}, {api.OpORA, izx, std}, {api.OpJAM, imp, jam}, {api.OpSLO, izx, und},
 	0x04: {api.OpNOP, zp, und}, {api.OpORA, zp, std}, {api.OpASL, zp, std}, {api.OpSLO, zp, und},
