@@ -32,8 +32,8 @@ func (b *Bus) Peek(addr uint16) uint8 {
 		return 0
 	}
 	at := b
-	if device(addr, false) {
-		// Reading a device leaves traces in it, so that it is done to a copy.
+	if leavesTraces(addr) {
+		// What a read would change is not to change now, so that it is done to a copy.
 		at = &Bus{mem: b.mem, prg: b.prg, chr: b.chr}
 	}
 	return regionOf(addr).read(at, addr)

@@ -16,12 +16,12 @@ func (b *Bus) Plain(addr uint16, write bool) bool {
 	switch {
 	case !b.made():
 		return false
-	case !write:
-		return b.Tag(addr) != api.TagNone
 	case addr >= prgStart:
-		return false
-	case addr >= workStart:
+		return !write
+	case addr >= workStart && write:
 		return b.workWrites()
+	case addr >= workStart:
+		return b.workReads()
 	}
 	return addr < videoStart
 }

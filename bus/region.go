@@ -78,6 +78,11 @@ func device(addr uint16, write bool) bool {
 	return addr >= videoStart && addr < workStart || write && addr >= prgStart
 }
 
+// leavesTraces tells whether a read there may change what answers: a device's own port does, but neither memory nor an address at which nothing answers.
+func leavesTraces(addr uint16) bool {
+	return addr >= videoStart && addr < portStart || addr >= portStatus && addr <= timerEnd
+}
+
 // readNothing: the data lines keep what was on them.
 func (b *Bus) readNothing(uint16) uint8 {
 	return b.mem.Open
